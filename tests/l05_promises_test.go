@@ -230,12 +230,14 @@ func toldOf(w impl.World) string {
 	return fmt.Sprint(w.Time, w.Next, out)
 }
 
-// reader does things at random, in a world and in a book; where kept is 3, no set or snapshot is destroyed.
+// reader does things at random, in a world and in a book; where kept is 3, no set or snapshot is destroyed. No two
+// writes have one text, so that just the pages that are the same ones read alike.
 type reader struct {
 	walk
-	w    impl.World
-	b    *book
-	kept int
+	w      impl.World
+	b      *book
+	kept   int
+	writes int
 }
 
 func readerOf(seed uint64, slots int64) *reader {
@@ -274,7 +276,8 @@ func (r *reader) any() (string, impl.WorldOut, int64) {
 		name := r.name()
 		return "new", impl.SetNew(r.w, name), r.b.add(name, &volume{pages: map[int64]string{}})
 	case n < 9:
-		data := fmt.Sprintf("%016d", r.pick(1000))[r.pick(30)/29:]
+		r.writes++
+		data := fmt.Sprintf("%013d%03d", r.writes, r.pick(1000))[r.pick(30)/29:]
 		return "write", impl.SetWrite(r.w, set, page, data), r.b.write(set, page, data, room)
 	case n < 12:
 		return "trim", impl.SetTrim(r.w, set, page), r.b.trim(set, page, room)
